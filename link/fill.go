@@ -4,19 +4,11 @@ import (
 	"slices"
 
 	"bulwark/api"
-	"bulwark/capa"
 	"bulwark/gate"
 	"bulwark/memory"
+	"bulwark/outset"
 	"bulwark/place"
 	"bulwark/tables"
-)
-
-// Permissions of what a machine begins with.
-const (
-	permsCode   = 29
-	permsData   = 23
-	permsStack  = 39
-	permsSwitch = 88
 )
 
 const (
@@ -114,41 +106,6 @@ func (l *linker) fillSections(c int) error {
 	return nil
 }
 
-// at answers a region's capability at an address.
-func (l *linker) at(kind uint8, owner int, perms uint8, from func(r api.Region) uint32) api.Cap {
-	r := l.region(kind, owner)
-	c, _ := tables.Cap(r, perms, from(r))
-	return c
-}
-
-func base(r api.Region) uint32 { return r.At }
-
-func top(r api.Region) uint32 { return r.At + r.N }
-
-// label answers a closure that tells where a line of the switcher stands.
-func label(name string) func(r api.Region) uint32 {
-	return func(r api.Region) uint32 {
-		at, _ := gate.Place(name)
-		return r.At + at
-	}
-}
-
-// start is the machine as it begins.
-func (l *linker) start() api.State {
-	c := l.plan.Start
-	main, _ := l.entrance(c, l.plan.Main)
-	s := api.State{
-		Pcc:  l.at(api.RegCode, c, permsCode, func(api.Region) uint32 { return main }),
-		Mtcc: l.at(api.RegSwitch, nobody, permsSwitch, label("trap")),
-		Mtdc: l.at(api.RegTrusted, nobody, permsStack, base),
-		On:   true,
-	}
-	s.Regs[1] = capa.Seal(l.at(api.RegSwitch, nobody, permsSwitch, label("back")), api.SentryOff)
-	s.Regs[2] = l.at(api.RegStack, nobody, permsStack, top)
-	s.Regs[3] = l.at(api.RegData, c, permsData, base)
-	return s
-}
-
 // image is what has come to be.
 func (l *linker) image() (api.Image, error) {
 	b, e := l.m.Bytes(0, imageSize)
@@ -161,7 +118,12 @@ func (l *linker) image() (api.Image, error) {
 			tagged = append(tagged, g)
 		}
 	}
-	return api.Image{Regions: l.regions, Bytes: b, Tags: tagged, Start: l.start(), Plan: l.plan}, nil
+	main, _ := l.entrance(l.plan.Start, l.plan.Main)
+	start, e := outset.State(l.regions, l.plan.Start, main)
+	if e != api.OK {
+		return api.Image{}, fail(whatRoom, "", e)
+	}
+	return api.Image{Regions: l.regions, Bytes: b, Tags: tagged, Start: start, Plan: l.plan}, nil
 }
 
 // rise tells whether granules' numbers rise, and are an image's.
