@@ -147,3 +147,13 @@ func File(name, text string) api.File {
 	b, _ := elf.Put(Object(text))
 	return api.File{Name: name, Bytes: b}
 }
+
+// Slot is the text that loads a slot in a register. The label names its first line.
+func Slot(label, register, name string) string {
+	return label + ": auipcc " + register + " 0 @23 " + name + "\nclc " + register + " 0 of " + register + " @24 " + label + "\n"
+}
+
+// Call is the text of a call of what is imported under a slot's name, by c5 and c6. The label, a and b behind it, names its lines.
+func Call(label, name string) string {
+	return Slot(label+"a", "c6", name) + Slot(label+"b", "c5", "switch") + "cjalr c1 0 of c5\n"
+}
