@@ -4,12 +4,10 @@ import (
 	"slices"
 
 	"bulwark/api"
+	"bulwark/fold"
 	"bulwark/lines"
 	"bulwark/num"
 )
-
-// maxLine is how many bytes a line has.
-const maxLine = 100
 
 // writer puts nodes as words. It goes through them as they stand, so that a list in which kids lead elsewhere ends it.
 type writer struct {
@@ -94,22 +92,7 @@ func (w *writer) names(n api.Node, parts string) {
 	}
 }
 
-// laid lays words in lines: one ends behind the last word that fits.
-func laid(words []string) []api.Words {
-	var l []api.Words
-	size := maxLine
-	for _, w := range words {
-		if size+1+len(w) > maxLine {
-			l = append(l, api.Words{})
-			size = -1
-		}
-		last := &l[len(l)-1]
-		last.Words = append(last.Words, w)
-		size += 1 + len(w)
-	}
-	return l
-}
-
+// same tells whether two nodes are the same. All that are no number are one.
 func same(a, b api.Node) bool {
 	return a.Kind == b.Kind && a.Name == b.Name && a.Other == b.Other && a.Rel == b.Rel && a.Op == b.Op && a.Of == b.Of && num.Same(a.Value, b.Value) && slices.Equal(a.Kids, b.Kids)
 }
@@ -120,7 +103,7 @@ func Put(l []api.Node) (string, api.Errno) {
 	if len(l) > maxNodes || !w.node(0) {
 		return "", api.ErrForm
 	}
-	text, e := lines.Put(laid(w.words))
+	text, e := lines.Put(fold.Words(w.words))
 	if e != api.OK {
 		return "", api.ErrForm
 	}
