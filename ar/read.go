@@ -1,7 +1,7 @@
 package ar
 
 import (
-	"math"
+	"strconv"
 	"strings"
 
 	"bulwark/api"
@@ -67,33 +67,21 @@ func split(s string) ([]piece, api.Errno) {
 			return nil, api.ErrForm
 		}
 		from := at + headSize
-		if size > len(s)-from {
+		if size > uint64(len(s)-from) {
 			return nil, api.ErrShort
 		}
-		pieces = append(pieces, piece{head[:nameSize], at, s[from : from+size]})
-		at = from + size
+		end := from + int(size)
+		pieces = append(pieces, piece{head[:nameSize], at, s[from:end]})
+		at = end
 	}
 	return pieces, api.OK
 }
 
-// sizeOf is a size in tens, with blanks behind it. (One that no archive has is told as the greatest one.)
-func sizeOf(field string) (int, bool) {
+// sizeOf is a size in tens, with blanks behind it: as Put writes it, so that no size has two texts.
+func sizeOf(field string) (uint64, bool) {
 	digits := strings.TrimRight(field, " ")
-	if digits == "" {
-		return 0, false
-	}
-	size := 0
-	for i := range len(digits) {
-		if digits[i] < '0' || digits[i] > '9' {
-			return 0, false
-		}
-		if size > maxBytes {
-			size = math.MaxInt32
-			continue
-		}
-		size = 10*size + int(digits[i]-'0')
-	}
-	return size, true
+	size, err := strconv.ParseUint(digits, 10, 64)
+	return size, err == nil && strconv.FormatUint(size, 10) == digits
 }
 
 // isAlone tells whether a head's name is the index's.
